@@ -1,0 +1,1 @@
+"""Networks of reactions, told exactly from a text."""

@@ -1,0 +1,156 @@
+"""Networks of reactions: what a text says, and what is asked of it."""
+
+FIRST_LINE_WRONG = -100
+MOST_SUBSTANCES = 24
+MOST_REACTIONS = 24
+MOST_OF_ONE = 99
+LONGEST_NAME = 16
+LONGEST_NUMBER = 2
+
+
+class WrongLine(Exception):
+
+    def __init__(self, line):
+        self.line = line
+
+
+class Network:
+
+    # The line is kept so that whatever refuses it can tell which one it is.
+    def __init__(self):
+        self.line = 0
+        self.numbers = {}
+        self.reactions = []
+
+
+def check(text):
+    try:
+        network = read_network(text)
+    except WrongLine as wrong:
+        return [FIRST_LINE_WRONG - wrong.line]
+    return [0, len(network.numbers), len(network.reactions), count_mixes(network)]
+
+
+def count_mixes(network):
+    mixes = {}
+    for reaction in network.reactions:
+        mixes[reaction[0]] = True
+        mixes[reaction[1]] = True
+    return len(mixes)
+
+
+# A line feed behind the last line leaves an empty row there, which says nothing.
+def read_network(text):
+    network = Network()
+    for number, row in enumerate(split_at(ord("\n"), text)):
+        network.line = number
+        read_line(network, row)
+    return network
+
+
+# No side may have a - in it, so a line has exactly one, that of its arrow;
+# a < or > that isn't the arrow's is left to the sides, which refuse it.
+def read_line(network, row):
+    said = strip_blanks(split_at(ord("#"), row)[0])
+    if len(said) == 0:
+        return
+    halves = split_at(ord("-"), said)
+    if len(halves) != 2 or halves[1][:1] != [ord(">")]:
+        raise WrongLine(network.line)
+    both_ways = halves[0][-1:] == [ord("<")]
+    left = read_side(network, halves[0][:-1] if both_ways else halves[0])
+    right = read_side(network, halves[1][1:])
+    add_reaction(network, left, right)
+    if both_ways:
+        add_reaction(network, right, left)
+
+
+def add_reaction(network, takes, gives):
+    if len(network.reactions) == MOST_REACTIONS:
+        raise WrongLine(network.line)
+    network.reactions.append((takes, gives))
+
+
+# How many substances there are isn't known before the text's end: a side has
+# room for the most there may be, so that equal mixes are equal tuples.
+def read_side(network, part):
+    amounts = [0] * MOST_SUBSTANCES
+    side = strip_blanks(part)
+    if side == [ord("0")]:
+        return tuple(amounts)
+    for piece in split_at(ord("+"), side):
+        term = strip_blanks(piece)
+        length = count_digits(term)
+        substance = number_substance(network, strip_blanks(term[length:]))
+        amounts[substance] += read_number(network, term[:length])
+        if amounts[substance] > MOST_OF_ONE:
+            raise WrongLine(network.line)
+    return tuple(amounts)
+
+
+def read_number(network, digits):
+    if len(digits) == 0:
+        return 1
+    if len(digits) > LONGEST_NUMBER or digits[0] == ord("0"):
+        raise WrongLine(network.line)
+    value = 0
+    for digit in digits:
+        value = value * 10 + digit - ord("0")
+    return value
+
+
+def number_substance(network, name):
+    if not is_name(name):
+        raise WrongLine(network.line)
+    key = tuple(name)
+    if key not in network.numbers:
+        if len(network.numbers) == MOST_SUBSTANCES:
+            raise WrongLine(network.line)
+        network.numbers[key] = len(network.numbers)
+    return network.numbers[key]
+
+
+def is_name(name):
+    if len(name) == 0 or len(name) > LONGEST_NAME or not is_letter(name[0]):
+        return False
+    for byte in name:
+        if not (is_letter(byte) or is_digit(byte) or byte == ord("_")):
+            return False
+    return True
+
+
+def is_letter(byte):
+    return ord("A") <= byte <= ord("Z") or ord("a") <= byte <= ord("z")
+
+
+def is_digit(byte):
+    return ord("0") <= byte <= ord("9")
+
+
+def count_digits(row):
+    count = 0
+    while count < len(row) and is_digit(row[count]):
+        count += 1
+    return count
+
+
+def strip_blanks(row):
+    start = 0
+    while start < len(row) and row[start] == ord(" "):
+        start += 1
+    end = len(row)
+    while end > start and row[end - 1] == ord(" "):
+        end -= 1
+    return row[start:end]
+
+
+# The pieces are copies: what was handed in stays as it was.
+def split_at(sign, row):
+    pieces = []
+    start = 0
+    for place, byte in enumerate(row):
+        if byte == sign:
+            pieces.append(row[start:place])
+            start = place + 1
+    pieces.append(row[start:])
+    return pieces
