@@ -1,6 +1,7 @@
 """The package's files keep to the small part of Python that the program is written in."""
 
 import ast
+import builtins
 import pathlib
 import re
 import unittest
@@ -123,7 +124,7 @@ class Form(unittest.TestCase):
             bound = bound_names(tree)
             for name in bound:
                 self.assertTrue(name in SPECIAL_METHODS or re.fullmatch(r"[A-Za-z][A-Za-z0-9_]*", name), name)
-                self.assertNotIn(name, dir(__builtins__) if not isinstance(__builtins__, dict) else __builtins__)
+                self.assertNotIn(name, dir(builtins))
             for node in ast.walk(tree):
                 if isinstance(node, ast.Name) and isinstance(node.ctx, ast.Load):
                     self.assertIn(node.id, bound + BUILT_IN, (path, node.lineno))
