@@ -1,5 +1,6 @@
 """Networks of reactions: what a text says, and what is asked of it."""
 
+OUT_OF_RANGE = -2
 FIRST_LINE_WRONG = -100
 MOST_SUBSTANCES = 24
 MOST_REACTIONS = 24
@@ -31,12 +32,56 @@ def check(text):
     return [0, len(network.numbers), len(network.reactions), count_mixes(network)]
 
 
+def empty(most, text):
+    if most < 0:
+        return [OUT_OF_RANGE]
+    try:
+        network = read_network(text)
+    except WrongLine as wrong:
+        return [FIRST_LINE_WRONG - wrong.line]
+    found = least_empty_sets(network)
+    return [len(found)] + found[:most]
+
+
 def count_mixes(network):
     mixes = {}
     for reaction in network.reactions:
         mixes[reaction[0]] = True
         mixes[reaction[1]] = True
     return len(mixes)
+
+
+# Whatever a set holds has a lower number than the set itself: going upwards, a
+# set that holds none of those found before holds no lesser one at all.
+def least_empty_sets(network):
+    reactions = [(substance_bits(takes), substance_bits(gives)) for takes, gives in network.reactions]
+    found = []
+    for bits in range(1, 1 << len(network.numbers)):
+        if not holds_one_of(bits, found) and stays_empty(bits, reactions):
+            found.append(bits)
+    return found
+
+
+def substance_bits(side):
+    bits = 0
+    for substance, amount in enumerate(side):
+        if amount > 0:
+            bits |= 1 << substance
+    return bits
+
+
+def holds_one_of(bits, lesser):
+    for other in lesser:
+        if (bits & other) == other:
+            return True
+    return False
+
+
+def stays_empty(bits, reactions):
+    for takes, gives in reactions:
+        if (bits & gives) != 0 and (bits & takes) == 0:
+            return False
+    return True
 
 
 # A line feed behind the last line leaves an empty row there, which says nothing.

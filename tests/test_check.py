@@ -4,6 +4,8 @@ import contextlib
 import io
 import unittest
 
+from read_only import ReadOnly
+
 from reactnets.networks import check
 
 
@@ -494,16 +496,6 @@ class NothingIsKeptOrChanged(CheckCase):
             for text in self.TEXTS:
                 check_text(text)
         self.assertEqual(printed.getvalue(), "")
-
-
-class ReadOnly(list):
-    """A list that fails at any change."""
-
-    def refuse(self, *values, **named):
-        raise AssertionError("the list that was handed in is changed")
-
-    append = clear = extend = insert = pop = remove = reverse = sort = refuse
-    __setitem__ = __delitem__ = __iadd__ = __imul__ = refuse
 
 
 if __name__ == "__main__":
