@@ -1,12 +1,14 @@
 """Networks of reactions: what a text says, and what is asked of it."""
 
 OUT_OF_RANGE = -2
+IMPOSSIBLE = -5
 FIRST_LINE_WRONG = -100
 MOST_SUBSTANCES = 24
 MOST_REACTIONS = 24
 MOST_OF_ONE = 99
 LONGEST_NAME = 16
 LONGEST_NUMBER = 2
+HIGHEST_AMOUNT = 4294967295
 
 
 class WrongLine(Exception):
@@ -41,6 +43,16 @@ def empty(most, text):
         return [FIRST_LINE_WRONG - wrong.line]
     found = least_empty_sets(network)
     return [len(found)] + found[:most]
+
+
+def go(text, amounts, steps):
+    try:
+        network = read_network(text)
+    except WrongLine as wrong:
+        return [FIRST_LINE_WRONG - wrong.line] + amounts
+    if not are_reactions(network, steps):
+        return [IMPOSSIBLE] + amounts
+    return do_steps(network, amounts, steps)
 
 
 def count_mixes(network):
@@ -82,6 +94,34 @@ def stays_empty(bits, reactions):
         if (bits & gives) != 0 and (bits & takes) == 0:
             return False
     return True
+
+
+# All steps are looked at ahead of the first: where one isn't a reaction, none is done.
+def are_reactions(network, steps):
+    return all([step < len(network.reactions) for step in steps])
+
+
+# Each step makes a list of its own, so that one which can't be done leaves the amounts before it.
+def do_steps(network, amounts, steps):
+    current = list(amounts)
+    for done, step in enumerate(steps):
+        reaction = network.reactions[step]
+        if lacks_something(current, reaction[0]):
+            return [done] + current
+        changed = change_amounts(current, reaction)
+        if max(changed, default=0) > HIGHEST_AMOUNT:
+            return [IMPOSSIBLE] + current
+        current = changed
+    return [len(steps)] + current
+
+
+def lacks_something(amounts, takes):
+    return any([amount < taken for amount, taken in zip(amounts, takes)])
+
+
+# The sides have room for more substances than there are: zip ends with the amounts.
+def change_amounts(amounts, reaction):
+    return [amount - taken + given for amount, taken, given in zip(amounts, reaction[0], reaction[1])]
 
 
 # A line feed behind the last line leaves an empty row there, which says nothing.
