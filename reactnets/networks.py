@@ -9,6 +9,8 @@ MOST_OF_ONE = 99
 LONGEST_NAME = 16
 LONGEST_NUMBER = 2
 HIGHEST_AMOUNT = 4294967295
+HIGHEST_DRAWN_AMOUNT = 1000
+HIGHEST_RATE = 1000000
 
 
 class WrongLine(Exception):
@@ -53,6 +55,16 @@ def go(text, amounts, steps):
     if not are_reactions(network, steps):
         return [IMPOSSIBLE] + amounts
     return do_steps(network, amounts, steps)
+
+
+def draw(number, text, amounts, rates):
+    try:
+        network = read_network(text)
+    except WrongLine as wrong:
+        return [FIRST_LINE_WRONG - wrong.line]
+    if max(amounts, default=0) > HIGHEST_DRAWN_AMOUNT or max(rates, default=0) > HIGHEST_RATE:
+        return [OUT_OF_RANGE]
+    return [draw_reaction(number, weigh_reactions(network, amounts, rates))]
 
 
 def count_mixes(network):
@@ -122,6 +134,37 @@ def lacks_something(amounts, takes):
 # The sides have room for more substances than there are: zip ends with the amounts.
 def change_amounts(amounts, reaction):
     return [amount - taken + given for amount, taken, given in zip(amounts, reaction[0], reaction[1])]
+
+
+# Where all weights are 0 nothing is above anything; else the last reaction at the
+# latest is drawn, since number is below 2 ** 64.
+def draw_reaction(number, weights):
+    everything = sum(weights)
+    weight_so_far = 0
+    for reaction, weight in enumerate(weights):
+        weight_so_far += weight
+        if weight_so_far * 2 ** 64 > number * everything:
+            return reaction
+    return IMPOSSIBLE
+
+
+def weigh_reactions(network, amounts, rates):
+    weights = []
+    for rate, reaction in zip(rates, network.reactions):
+        weight = rate
+        for amount, taken in zip(amounts, reaction[0]):
+            weight *= count_ways(amount, taken)
+        weights.append(weight)
+    return weights
+
+
+# Each division comes out even: behind it stand the ways to take one more than before.
+# Where more are taken than there are, a factor of 0 is among them.
+def count_ways(amount, taken):
+    ways = 1
+    for before in range(taken):
+        ways = ways * (amount - before) // (before + 1)
+    return ways
 
 
 # A line feed behind the last line leaves an empty row there, which says nothing.

@@ -92,6 +92,12 @@ class Form(unittest.TestCase):
         for path, node in nodes(ast.Constant):
             self.assertIn(type(node.value), (int, str, bool, type(None)), (path, node.lineno))
 
+    def test_powers_have_a_written_exponent(self):
+        for path, node in nodes((ast.BinOp, ast.AugAssign)):
+            if isinstance(node.op, ast.Pow):
+                self.assertIsInstance(node, ast.BinOp, (path, node.lineno))
+                self.assertIn(getattr(node.right, "value", None), range(65), (path, node.lineno))
+
     def test_the_top_of_a_file(self):
         for path, tree in trees():
             for place, node in enumerate(tree.body):
